@@ -1,0 +1,1 @@
+"""Orders in casks: which casks fill an order."""
