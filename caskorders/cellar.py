@@ -1,9 +1,12 @@
-"""Calls about one cellar: which kinds of casks there are, and which plans fill an order."""
+"""Calls about one cellar: which kinds of casks there are, and what its plans hold."""
 
 BEGINS = 0
 KIND = 1
 CHECK = 2
 FULL = 3
+FEWEST = 4
+NEVER = 5
+PLAIN = 6
 
 LARGEST_SIZE = 60
 MOST_OF_A_KIND = 6
@@ -26,6 +29,16 @@ def plans_of(stock):
                 longer.append(plan + [taken])
         plans = longer
     return plans
+
+
+def best_of(rows):
+    """The least row's first two numbers, how many rows have these two, its plan; or a refusal."""
+    if not rows:
+        return [-6]
+    # Lists are compared number by number: of rows alike in the first two, the earlier plan's is less.
+    best = min(rows)
+    alike = [row for row in rows if row[:2] == best[:2]]
+    return best[:2] + [len(alike)] + best[2:]
 
 
 class Cellar:
@@ -64,13 +77,33 @@ class Cellar:
         """The least room, the fewest casks for it, how many such plans, the earliest; or a refusal."""
         if not is_order(order):
             return [-1]
-        rows = self.filling_rows(order)
-        if not rows:
-            return [-6]
-        # Lists are compared number by number: room, then casks, then the earlier plan.
-        best = min(rows)
-        alike = [row for row in rows if row[:2] == best[:2]]
-        return best[:2] + [len(alike)] + best[2:]
+        return best_of(self.filling_rows(order))
+
+    def fewest(self, order):
+        """The fewest casks, the least room for them, how many such plans, the earliest; or a refusal."""
+        if not is_order(order):
+            return [-1]
+        return best_of([[row[1], row[0]] + row[2:] for row in self.filling_rows(order)])
+
+    def never(self, most):
+        """How many numbers from 1 to the most no plan holds just, and the greatest; or a refusal."""
+        if not is_order(most):
+            return [-1]
+        held = self.held_by_some_plan()
+        missed = [number for number in range(1, most + 1) if number not in held]
+        return [len(missed), max(missed, default=0)]
+
+    def plain(self, order):
+        """What the largest first leaves of the order, the casks taken, and the plan; or a refusal."""
+        if not is_order(order):
+            return [-1]
+        left = order
+        plan = [0] * len(self.sizes)
+        for number in self.numbers_largest_first():
+            size = self.sizes[number]
+            plan[number] = min(self.stock[number], left // size)
+            left = left - plan[number] * size
+        return [left, sum(plan)] + plan
 
     def filling_rows(self, order):
         """A row for each plan that fills the order: the room left, the casks taken, the plan."""
@@ -80,6 +113,17 @@ class Cellar:
             if room >= 0:
                 rows.append([room, sum(plan)] + plan)
         return rows
+
+    def held_by_some_plan(self):
+        """Each whole number that some plan holds just, as a key."""
+        held = {}
+        for plan in plans_of(self.stock):
+            held[self.held_by(plan)] = True
+        return held
+
+    def numbers_largest_first(self):
+        """The kinds' numbers, from the largest size on, of one size the lower number first."""
+        return sorted(range(len(self.sizes)), key=lambda number: (-self.sizes[number], number))
 
     def can_take(self, plan):
         """Whether the plan has a number for each kind, none above what there is."""
@@ -102,6 +146,12 @@ def answer_to(cellar, call, numbers):
         return cellar.check(numbers[0], numbers[1:])
     if call == FULL:
         return cellar.full(numbers[0])
+    if call == FEWEST:
+        return cellar.fewest(numbers[0])
+    if call == NEVER:
+        return cellar.never(numbers[0])
+    if call == PLAIN:
+        return cellar.plain(numbers[0])
     raise ValueError("there is no call of this number")
 
 

@@ -1,9 +1,9 @@
 """full: point 2 of the promises, as far as it speaks of full."""
 
-import itertools
 import unittest
 
-from helper import LARGEST, ask, ask_after, check, full, kinds
+from helper import (LARGEST, SOME_CELLARS, ask, ask_after, best_by_hand, casks_of, check, every_order, full, kinds,
+                    room_of)
 
 CELLAR = kinds((25, 2), (16, 2), (9, 2), (4, 2))
 FULLEST = kinds((60, 6), (60, 6), (60, 6), (60, 6))
@@ -84,31 +84,16 @@ class Refused(unittest.TestCase):
         self.assertEqual(told, [[-1], [-1], [-6], [0, 4, 1, 2, 1, 0, 1], [0, 4], [0, 4, 1, 2, 1, 0, 1]])
 
 
-def best_by_hand(pairs, order):
-    """What full is to answer, by going through all plans one condition after another."""
-    sizes = [size for size, many in pairs]
-    plans = [plan for plan in itertools.product(*[range(many + 1) for size, many in pairs])
-             if sum(map(int.__mul__, plan, sizes)) >= order]
-    if not plans:
-        return [-6]
-    room = min(sum(map(int.__mul__, plan, sizes)) for plan in plans) - order
-    plans = [plan for plan in plans if sum(map(int.__mul__, plan, sizes)) == order + room]
-    casks = min(sum(plan) for plan in plans)
-    plans = [plan for plan in plans if sum(plan) == casks]
-    return [room, casks, len(plans), *sorted(plans)[0]]
-
-
 class EveryOrder(unittest.TestCase):
 
     def test_some_cellars(self):
-        for pairs in (((25, 2), (16, 2), (9, 2), (4, 2)), ((4, 3), (6, 2), (6, 1)), ((7, 1), (7, 0), (14, 2), (3, 6)),
-                      ((12, 3), (8, 3)), ((1, 6),)):
-            orders = list(range(1, sum(size * many for size, many in pairs) + 2))
+        for pairs in SOME_CELLARS:
+            orders = every_order(pairs)
             for first in range(0, len(orders), 6):
                 some = orders[first:first + 6]
                 with self.subTest(pairs=pairs, orders=some):
                     self.assertEqual(ask_after(kinds(*pairs), *[full(order) for order in some]),
-                                     [best_by_hand(pairs, order) for order in some])
+                                     [best_by_hand(pairs, order, room_of, casks_of) for order in some])
 
 
 if __name__ == "__main__":
